@@ -11,11 +11,6 @@ import (
 	"loop.example/g01130/impl"
 )
 
-const (
-	filler  = -4321
-	scratch = -9876
-)
-
 var builtFunctions = []struct {
 	name string
 	call any
@@ -39,6 +34,20 @@ var builtFunctions = []struct {
 	{"ListText", impl.ListText},
 	{"ReadList", impl.ReadList},
 	{"CheckOf", impl.CheckOf},
+	{"ValidChain", impl.ValidChain},
+	{"RunChain", impl.RunChain},
+	{"IsChecked", impl.IsChecked},
+	{"CountWords", impl.CountWords},
+	{"WordAt", impl.WordAt},
+	{"RankOfWord", impl.RankOfWord},
+	{"CheckSymbols", impl.CheckSymbols},
+	{"UndetectedAt", impl.UndetectedAt},
+	{"UndetectedIn", impl.UndetectedIn},
+	{"FirstUndetected", impl.FirstUndetected},
+	{"IsCaught", impl.IsCaught},
+	{"LeastDistance", impl.LeastDistance},
+	{"JoinChains", impl.JoinChains},
+	{"EvenChain", impl.EvenChain},
 }
 
 var triedNumbers = []int64{
@@ -46,70 +55,57 @@ var triedNumbers = []int64{
 	impl.CheckSize - 1, impl.CheckSize, impl.MaxValue, impl.MaxValue + 1, math.MaxInt64,
 }
 
+const mostCalls = 30000
+
+var fewNumbers = []int64{math.MinInt64, -1, 0, 1, 2, 20, 21, math.MaxInt64}
+
 var triedTexts = []string{
 	"", "0", "00", "7", "-7", "-0", "+7", "007", "1A", "1a", "Z", "luhn", "abcdefgh", "abcdefghi", "none", "None",
 	"1 2", "1  2", " 1", "1 ", "-", " ", "\x00", "\xff", "\xc3\x28", "é", "Ａ", "1000000000000000", "1000000000000001",
 	"9223372036854775808", strings.Repeat("Z", 20), strings.Repeat("Z", 21), strings.Repeat("1 ", 40) + "1",
-	strings.Repeat("0", 100000), strings.Repeat(" ", 100000),
+	strings.Repeat("0", 100000), strings.Repeat(" ", 100000), "011", "100", "102", "0123", "ZZ", strings.Repeat("1", 20),
 }
 
 var triedLists = [][]int64{
 	nil, {}, {0}, {1}, {0, 1}, {1, 0}, {0, 0}, {1, 2, 0}, {2, 1, 0}, {1, 2}, {-1, 0}, {0, 2, 1, 4, 5, 3}, {35, 36},
 	{math.MinInt64, math.MaxInt64}, {impl.MaxValue, -impl.MaxValue}, {impl.MaxValue + 1}, {0, -impl.MaxValue - 1},
-	turned(20), turned(21), turned(36), turned(37), make([]int64, 40), make([]int64, 41), make([]int64, 100000),
+	turned(20), turned(21), turned(36), turned(37), make([]int64, 40), make([]int64, 41), make([]int64, 1000),
 }
+
+var triedTables = [][][]int64{
+	nil, {}, {nil}, {{}}, {{0}}, {{0, 0}}, {{0, 1}, {1, 0}}, {{0, 0}, {1, 1}}, {{0, 2}, {1, 0}}, {{0, 1}, {1}}, {{0, 1}, nil},
+	{{0, -1}, {1, 0}}, {{math.MinInt64, math.MaxInt64}, {0, 0}}, sumTable(3, 3, 1), sumTable(10, 10, 1), sumTable(36, 36, 5),
+	sumTable(37, 10, 1), sumTable(10, 37, 1), make([][]int64, 1000), {make([]int64, 1000)},
+}
+
+var triedChains = append(invalidChains(),
+	impl.Chain{}, parity(3), parity(20), sumChain(10, 4), sumChain(36, 2), remainders(3, 4, 2, 3), noWords(), oneWord(),
+	oneState(2, 20), oneState(36, 9), oneState(2, 1), randomChain(11, 12, 3, 20, 3), randomChain(12, 36, 2, 5, 4),
+)
 
 // triedArguments returns what to pass for each type of a parameter.
-func triedArguments(of reflect.Type) []reflect.Value {
-	var tried []reflect.Value
+func triedArguments(of reflect.Type, numbers []int64) []reflect.Value {
 	switch of {
 	case reflect.TypeFor[int64]():
-		for _, n := range triedNumbers {
-			tried = append(tried, reflect.ValueOf(n))
-		}
+		return valuesOf(numbers)
 	case reflect.TypeFor[string]():
-		for _, s := range triedTexts {
-			tried = append(tried, reflect.ValueOf(s))
-		}
+		return valuesOf(triedTexts)
 	case reflect.TypeFor[[]int64]():
-		for _, list := range triedLists {
-			tried = append(tried, reflect.ValueOf(list))
-		}
-	default:
-		panic("no arguments for " + of.String())
+		return valuesOf(triedLists)
+	case reflect.TypeFor[[][]int64]():
+		return valuesOf(triedTables)
+	case reflect.TypeFor[impl.Chain]():
+		return valuesOf(triedChains)
 	}
-	return tried
+	panic("no arguments for " + of.String())
 }
 
-// guarded returns a copy of a list with memory in front of it and unused capacity behind it, and all of this memory.
-func guarded(list []int64) (copied, memory []int64) {
-	memory = append([]int64{filler, filler}, list...)
-	memory = append(memory, filler, filler, filler)
-	return memory[2 : 2+len(list)], memory
-}
-
-// scribble writes over all memory of a result; it reports whether no two of its lists share any.
-func scribble(result reflect.Value) bool {
-	switch lists := result.Interface().(type) {
-	case []int64:
-		fill(lists[:cap(lists)], scratch)
-	case [][]int64:
-		for i, list := range lists {
-			fill(list[:cap(list)], int64(i))
-		}
-		for i, list := range lists {
-			if slices.ContainsFunc(list[:cap(list)], func(x int64) bool { return x != int64(i) }) {
-				return false
-			}
-		}
+func valuesOf[T any](list []T) []reflect.Value {
+	values := []reflect.Value{}
+	for _, one := range list {
+		values = append(values, reflect.ValueOf(one))
 	}
-	return true
-}
-
-func fill(list []int64, with int64) {
-	for i := range list {
-		list[i] = with
-	}
+	return values
 }
 
 func sayValues(values []reflect.Value) string {
@@ -120,46 +116,56 @@ func sayValues(values []reflect.Value) string {
 	return say(all...)
 }
 
+// isBlank reports whether a value is a zero value, where an empty slice is as good as nil.
+func isBlank(value reflect.Value) bool {
+	switch value.Kind() {
+	case reflect.Slice:
+		return value.Len() == 0
+	case reflect.Struct:
+		for i := range value.NumField() {
+			if !isBlank(value.Field(i)) {
+				return false
+			}
+		}
+		return true
+	}
+	return value.IsZero()
+}
+
 // failsWithValue reports whether a call failed, and a result other than the last one is not a zero value.
 func failsWithValue(results []reflect.Value) bool {
 	last := len(results) - 1
 	if results[last].Kind() != reflect.Bool || results[last].Bool() {
 		return false
 	}
-	return slices.ContainsFunc(results[:last], func(result reflect.Value) bool {
-		if result.Kind() == reflect.Slice {
-			return result.Len() > 0
-		}
-		return !result.IsZero()
-	})
+	return slices.ContainsFunc(results[:last], func(result reflect.Value) bool { return !isBlank(result) })
 }
 
 // checkCall returns what is wrong with a call with the given arguments, or nothing.
 func checkCall(function reflect.Value, tried []reflect.Value) string {
-	passed := slices.Clone(tried)
-	var memories, copies [][]int64
-	for i, value := range tried {
-		if list, ok := value.Interface().([]int64); ok && list != nil {
-			view, memory := guarded(list)
-			passed[i] = reflect.ValueOf(view)
-			memories = append(memories, memory)
-			copies = append(copies, slices.Clone(memory))
-		}
+	memories := &memoryList{}
+	passed := []reflect.Value{}
+	for _, value := range tried {
+		passed = append(passed, memories.guarded(value))
 	}
+	before := memories.copied()
 	first := function.Call(passed)
 	text := sayValues(first)
 	if failsWithValue(first) {
 		return "fails with " + text
 	}
+	blocks := memories.blocks()
 	for _, result := range first {
-		if !scribble(result) {
-			return "lists of the result share memory"
-		}
+		blocks = append(blocks, blocksOf(result)...)
 	}
-	for i := range memories {
-		if !slices.Equal(memories[i], copies[i]) {
-			return "an argument has changed, or a result shares its memory"
-		}
+	if shared(blocks) {
+		return "two slices share memory in the result, or one of it and an argument"
+	}
+	if !memories.equal(before) {
+		return "an argument has changed"
+	}
+	for _, result := range first {
+		scribble(result)
 	}
 	if again := sayValues(function.Call(passed)); again != text {
 		return "first " + text + ", then " + again
@@ -178,10 +184,10 @@ func shortText(s string) string {
 	return s
 }
 
-func tryAll(t *testing.T, function reflect.Value, chosen []reflect.Value) {
+func tryAll(t *testing.T, function reflect.Value, numbers []int64, chosen []reflect.Value) {
 	if len(chosen) < function.Type().NumIn() {
-		for _, value := range triedArguments(function.Type().In(len(chosen))) {
-			tryAll(t, function, append(slices.Clip(chosen), value))
+		for _, value := range triedArguments(function.Type().In(len(chosen)), numbers) {
+			tryAll(t, function, numbers, append(slices.Clip(chosen), value))
 		}
 		return
 	}
@@ -190,20 +196,40 @@ func tryAll(t *testing.T, function reflect.Value, chosen []reflect.Value) {
 	}
 }
 
+// numbersFor returns fewNumbers where all of triedNumbers would make too many calls.
+func numbersFor(function reflect.Type) []int64 {
+	calls := 1
+	for i := range function.NumIn() {
+		calls *= len(triedArguments(function.In(i), triedNumbers))
+	}
+	if calls > mostCalls {
+		return fewNumbers
+	}
+	return triedNumbers
+}
+
 func TestPromise1CallsReturnAndAreEqual(t *testing.T) {
 	for _, built := range builtFunctions {
 		t.Run(built.name, func(t *testing.T) {
-			tryAll(t, reflect.ValueOf(built.call), nil)
+			t.Parallel()
+			function := reflect.ValueOf(built.call)
+			tryAll(t, function, numbersFor(function.Type()), nil)
 		})
 	}
 }
 
 // A call must not depend on those before it either.
 func TestPromise1CallsKeepNoState(t *testing.T) {
-	before := say(impl.PowerOrder(turned(36), 7)) + say(impl.CheckOf(5, "a")) + say(impl.ReadList("1 2"))
+	calls := func() string {
+		return say(impl.PowerOrder(turned(36), 7)) + say(impl.CheckOf(5, "a")) + say(impl.ReadList("1 2")) +
+			say(impl.FirstUndetected(parity(3), impl.ErrSwap)) + say(impl.WordAt(parity(3), 1)) + say(impl.LeastDistance(parity(3)))
+	}
+	before := calls()
 	impl.PowerOrder(turned(5), 3)
 	impl.CheckOf(77, "other")
 	impl.ReadList("9 9 9")
-	after := say(impl.PowerOrder(turned(36), 7)) + say(impl.CheckOf(5, "a")) + say(impl.ReadList("1 2"))
-	expect(t, after, before)
+	impl.FirstUndetected(sumChain(10, 4), impl.ErrTwin)
+	impl.WordAt(sumChain(10, 4), 77)
+	impl.LeastDistance(oneState(36, 9))
+	expect(t, calls(), before)
 }
