@@ -48,6 +48,20 @@ var builtFunctions = []struct {
 	{"LeastDistance", impl.LeastDistance},
 	{"JoinChains", impl.JoinChains},
 	{"EvenChain", impl.EvenChain},
+	{"ValidWeighting", impl.ValidWeighting},
+	{"WeightSum", impl.WeightSum},
+	{"WeightChain", impl.WeightChain},
+	{"UnseenPairs", impl.UnseenPairs},
+	{"WeightCatches", impl.WeightCatches},
+	{"IsCheckPlace", impl.IsCheckPlace},
+	{"MirrorWeighting", impl.MirrorWeighting},
+	{"ScaleWeighting", impl.ScaleWeighting},
+	{"ValidPermuting", impl.ValidPermuting},
+	{"PermutingChain", impl.PermutingChain},
+	{"PermutingOf", impl.PermutingOf},
+	{"KnownChain", impl.KnownChain},
+	{"WeightingText", impl.WeightingText},
+	{"ReadWeighting", impl.ReadWeighting},
 }
 
 var triedNumbers = []int64{
@@ -64,6 +78,7 @@ var triedTexts = []string{
 	"1 2", "1  2", " 1", "1 ", "-", " ", "\x00", "\xff", "\xc3\x28", "é", "Ａ", "1000000000000000", "1000000000000001",
 	"9223372036854775808", strings.Repeat("Z", 20), strings.Repeat("Z", 21), strings.Repeat("1 ", 40) + "1",
 	strings.Repeat("0", 100000), strings.Repeat(" ", 100000), "011", "100", "102", "0123", "ZZ", strings.Repeat("1", 20),
+	"10/10/0/3 1", "36/36/35/35 0 35", "10/10/0/3 10", "10/10/0/none", "/", strings.Repeat("/", 100000),
 }
 
 var triedLists = [][]int64{
@@ -83,6 +98,17 @@ var triedChains = append(invalidChains(),
 	oneState(2, 20), oneState(36, 9), oneState(2, 1), randomChain(11, 12, 3, 20, 3), randomChain(12, 36, 2, 5, 4),
 )
 
+var triedWeightings = append(invalidWeightings(),
+	weighting(2, 2, 1, 1, 0, 1), weighting(10, 10, 0, 3, 1), weighting(10, 10, 7, 3, 9, 3), weighting(10, 11, 0, 3, 2, 1),
+	weighting(36, 36, 35, 35, 0, 35), weighting(36, 36, 0, slices.Repeat([]int64{35}, 9)...), weighting(5, 36, 0, countedList(20)...),
+	weighting(5, 5, 4, slices.Repeat([]int64{3}, 20)...), weighting(2, 36, 35, 1), weighting(36, 2, 1, 1),
+)
+
+var triedPermutings = append(invalidPermutings(),
+	permuting(2, 1, []int64{1, 0}), permuting(3, 2, []int64{1, 2, 0}, []int64{0, 2, 1}, []int64{1, 2, 0}),
+	permuting(2, 0, sameOrders(20, 1, 0)...), permuting(4, 3, ordersOf(4)[:20]...), permuting(36, 35, turned(36), countedList(36)),
+)
+
 // triedArguments returns what to pass for each type of a parameter.
 func triedArguments(of reflect.Type, numbers []int64) []reflect.Value {
 	switch of {
@@ -96,6 +122,10 @@ func triedArguments(of reflect.Type, numbers []int64) []reflect.Value {
 		return valuesOf(triedTables)
 	case reflect.TypeFor[impl.Chain]():
 		return valuesOf(triedChains)
+	case reflect.TypeFor[impl.Weighting]():
+		return valuesOf(triedWeightings)
+	case reflect.TypeFor[impl.Permuting]():
+		return valuesOf(triedPermutings)
 	}
 	panic("no arguments for " + of.String())
 }
@@ -222,7 +252,9 @@ func TestPromise1CallsReturnAndAreEqual(t *testing.T) {
 func TestPromise1CallsKeepNoState(t *testing.T) {
 	calls := func() string {
 		return say(impl.PowerOrder(turned(36), 7)) + say(impl.CheckOf(5, "a")) + say(impl.ReadList("1 2")) +
-			say(impl.FirstUndetected(parity(3), impl.ErrSwap)) + say(impl.WordAt(parity(3), 1)) + say(impl.LeastDistance(parity(3)))
+			say(impl.FirstUndetected(parity(3), impl.ErrSwap)) + say(impl.WordAt(parity(3), 1)) + say(impl.LeastDistance(parity(3))) +
+			say(impl.KnownChain(impl.KnownHybrid, 3)) + say(impl.UnseenPairs(weighting(10, 10, 0, 3, 1), impl.ErrSwap, 0)) +
+			say(impl.PermutingOf(weighting(3, 3, 0, 1, 2))) + say(impl.ReadWeighting("10/10/0/3 1"))
 	}
 	before := calls()
 	impl.PowerOrder(turned(5), 3)
@@ -231,5 +263,9 @@ func TestPromise1CallsKeepNoState(t *testing.T) {
 	impl.FirstUndetected(sumChain(10, 4), impl.ErrTwin)
 	impl.WordAt(sumChain(10, 4), 77)
 	impl.LeastDistance(oneState(36, 9))
+	impl.KnownChain(impl.KnownLuhn, 15)
+	impl.UnseenPairs(weighting(10, 11, 0, 3, 2, 1), impl.ErrJump, 0)
+	impl.PermutingOf(weighting(5, 5, 4, 3, 2))
+	impl.ReadWeighting("36/36/35/35 0 35")
 	expect(t, calls(), before)
 }
