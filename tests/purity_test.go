@@ -62,14 +62,28 @@ var builtFunctions = []struct {
 	{"KnownChain", impl.KnownChain},
 	{"WeightingText", impl.WeightingText},
 	{"ReadWeighting", impl.ReadWeighting},
+	{"IsQuasigroup", impl.IsQuasigroup},
+	{"TurnTable", impl.TurnTable},
+	{"RenameTable", impl.RenameTable},
+	{"ZeroDiagonal", impl.ZeroDiagonal},
+	{"SwapClashes", impl.SwapClashes},
+	{"ChainClashes", impl.ChainClashes},
+	{"IsTotally", impl.IsTotally},
+	{"LinearTable", impl.LinearTable},
+	{"ProductTable", impl.ProductTable},
+	{"FirstTotally", impl.FirstTotally},
+	{"CountTotally", impl.CountTotally},
+	{"TableChain", impl.TableChain},
+	{"TableText", impl.TableText},
+	{"ReadTable", impl.ReadTable},
 }
 
 var triedNumbers = []int64{
-	math.MinInt64, -impl.MaxValue - 1, -impl.MaxValue, -1, 0, 1, 2, 3, 10, 35, 36, 37, 999, 1000, 1001,
+	math.MinInt64, -impl.MaxValue - 1, -impl.MaxValue, -1, 0, 1, 2, 3, 4, 5, 6, 10, 35, 36, 37, 999, 1000, 1001,
 	impl.CheckSize - 1, impl.CheckSize, impl.MaxValue, impl.MaxValue + 1, math.MaxInt64,
 }
 
-const mostCalls = 30000
+const mostCalls = 40000
 
 var fewNumbers = []int64{math.MinInt64, -1, 0, 1, 2, 20, 21, math.MaxInt64}
 
@@ -79,6 +93,7 @@ var triedTexts = []string{
 	"9223372036854775808", strings.Repeat("Z", 20), strings.Repeat("Z", 21), strings.Repeat("1 ", 40) + "1",
 	strings.Repeat("0", 100000), strings.Repeat(" ", 100000), "011", "100", "102", "0123", "ZZ", strings.Repeat("1", 20),
 	"10/10/0/3 1", "36/36/35/35 0 35", "10/10/0/3 10", "10/10/0/none", "/", strings.Repeat("/", 100000),
+	"01/10", "012/201/120", "00/11", "01/10/", "01/ 10", "012/201", strings.Repeat("0/", 100000),
 }
 
 var triedLists = [][]int64{
@@ -87,10 +102,14 @@ var triedLists = [][]int64{
 	turned(20), turned(21), turned(36), turned(37), make([]int64, 40), make([]int64, 41), make([]int64, 1000),
 }
 
+// fewLists has orders for some of triedTables.
+var fewLists = [][]int64{nil, {0}, {1, 0}, {1, 2, 0}, {2, 1, 0}, {0, 0, 1}, {-1, 0}, turned(10), turned(36)}
+
 var triedTables = [][][]int64{
 	nil, {}, {nil}, {{}}, {{0}}, {{0, 0}}, {{0, 1}, {1, 0}}, {{0, 0}, {1, 1}}, {{0, 2}, {1, 0}}, {{0, 1}, {1}}, {{0, 1}, nil},
 	{{0, -1}, {1, 0}}, {{math.MinInt64, math.MaxInt64}, {0, 0}}, sumTable(3, 3, 1), sumTable(10, 10, 1), sumTable(36, 36, 5),
 	sumTable(37, 10, 1), sumTable(10, 37, 1), make([][]int64, 1000), {make([]int64, 1000)},
+	tableOf("10/01"), tableOf("012/201/120"), tableOf("0123/1230/3012/2301"), tableOf("012/120/210"), sumTable(10, 10, 2), sumTable(37, 37, 1),
 }
 
 var triedChains = append(invalidChains(),
@@ -109,15 +128,26 @@ var triedPermutings = append(invalidPermutings(),
 	permuting(2, 0, sameOrders(20, 1, 0)...), permuting(4, 3, ordersOf(4)[:20]...), permuting(36, 35, turned(36), countedList(36)),
 )
 
-// triedArguments returns what to pass for each type of a parameter.
-func triedArguments(of reflect.Type, numbers []int64) []reflect.Value {
-	switch of {
+// arguments are numbers and lists to pass; what is passed for other types is always the same.
+type arguments struct {
+	numbers []int64
+	lists   [][]int64
+}
+
+var (
+	manyArguments = arguments{triedNumbers, triedLists}
+	fewArguments  = arguments{fewNumbers, fewLists}
+)
+
+// of returns what to pass for each type of a parameter.
+func (a arguments) of(parameter reflect.Type) []reflect.Value {
+	switch parameter {
 	case reflect.TypeFor[int64]():
-		return valuesOf(numbers)
+		return valuesOf(a.numbers)
 	case reflect.TypeFor[string]():
 		return valuesOf(triedTexts)
 	case reflect.TypeFor[[]int64]():
-		return valuesOf(triedLists)
+		return valuesOf(a.lists)
 	case reflect.TypeFor[[][]int64]():
 		return valuesOf(triedTables)
 	case reflect.TypeFor[impl.Chain]():
@@ -127,7 +157,7 @@ func triedArguments(of reflect.Type, numbers []int64) []reflect.Value {
 	case reflect.TypeFor[impl.Permuting]():
 		return valuesOf(triedPermutings)
 	}
-	panic("no arguments for " + of.String())
+	panic("no arguments for " + parameter.String())
 }
 
 func valuesOf[T any](list []T) []reflect.Value {
@@ -214,10 +244,10 @@ func shortText(s string) string {
 	return s
 }
 
-func tryAll(t *testing.T, function reflect.Value, numbers []int64, chosen []reflect.Value) {
+func tryAll(t *testing.T, function reflect.Value, tried arguments, chosen []reflect.Value) {
 	if len(chosen) < function.Type().NumIn() {
-		for _, value := range triedArguments(function.Type().In(len(chosen)), numbers) {
-			tryAll(t, function, numbers, append(slices.Clip(chosen), value))
+		for _, value := range tried.of(function.Type().In(len(chosen))) {
+			tryAll(t, function, tried, append(slices.Clip(chosen), value))
 		}
 		return
 	}
@@ -226,16 +256,16 @@ func tryAll(t *testing.T, function reflect.Value, numbers []int64, chosen []refl
 	}
 }
 
-// numbersFor returns fewNumbers where all of triedNumbers would make too many calls.
-func numbersFor(function reflect.Type) []int64 {
+// argumentsFor returns fewArguments where manyArguments would make too many calls.
+func argumentsFor(function reflect.Type) arguments {
 	calls := 1
 	for i := range function.NumIn() {
-		calls *= len(triedArguments(function.In(i), triedNumbers))
+		calls *= len(manyArguments.of(function.In(i)))
 	}
 	if calls > mostCalls {
-		return fewNumbers
+		return fewArguments
 	}
-	return triedNumbers
+	return manyArguments
 }
 
 func TestPromise1CallsReturnAndAreEqual(t *testing.T) {
@@ -243,7 +273,7 @@ func TestPromise1CallsReturnAndAreEqual(t *testing.T) {
 		t.Run(built.name, func(t *testing.T) {
 			t.Parallel()
 			function := reflect.ValueOf(built.call)
-			tryAll(t, function, numbersFor(function.Type()), nil)
+			tryAll(t, function, argumentsFor(function.Type()), nil)
 		})
 	}
 }
@@ -254,7 +284,9 @@ func TestPromise1CallsKeepNoState(t *testing.T) {
 		return say(impl.PowerOrder(turned(36), 7)) + say(impl.CheckOf(5, "a")) + say(impl.ReadList("1 2")) +
 			say(impl.FirstUndetected(parity(3), impl.ErrSwap)) + say(impl.WordAt(parity(3), 1)) + say(impl.LeastDistance(parity(3))) +
 			say(impl.KnownChain(impl.KnownHybrid, 3)) + say(impl.UnseenPairs(weighting(10, 10, 0, 3, 1), impl.ErrSwap, 0)) +
-			say(impl.PermutingOf(weighting(3, 3, 0, 1, 2))) + say(impl.ReadWeighting("10/10/0/3 1"))
+			say(impl.PermutingOf(weighting(3, 3, 0, 1, 2))) + say(impl.ReadWeighting("10/10/0/3 1")) +
+			say(impl.FirstTotally(4)) + say(impl.CountTotally(3)) + say(impl.TurnTable(tableOf("012/201/120"), 4)) +
+			say(impl.ChainClashes(tableOf("01/10"))) + say(impl.ReadTable("01/10"))
 	}
 	before := calls()
 	impl.PowerOrder(turned(5), 3)
@@ -267,5 +299,10 @@ func TestPromise1CallsKeepNoState(t *testing.T) {
 	impl.UnseenPairs(weighting(10, 11, 0, 3, 2, 1), impl.ErrJump, 0)
 	impl.PermutingOf(weighting(5, 5, 4, 3, 2))
 	impl.ReadWeighting("36/36/35/35 0 35")
+	impl.FirstTotally(5)
+	impl.CountTotally(4)
+	impl.TurnTable(tableOf("0123/1230/3012/2301"), 1)
+	impl.ChainClashes(sumTable(36, 36, 5))
+	impl.ReadTable("012/201/120")
 	expect(t, calls(), before)
 }
