@@ -76,6 +76,23 @@ var builtFunctions = []struct {
 	{"TableChain", impl.TableChain},
 	{"TableText", impl.TableText},
 	{"ReadTable", impl.ReadTable},
+	{"ValidGroup", impl.ValidGroup},
+	{"CyclicGroup", impl.CyclicGroup},
+	{"DihedralGroup", impl.DihedralGroup},
+	{"ProductGroup", impl.ProductGroup},
+	{"IdentityOf", impl.IdentityOf},
+	{"InverseIn", impl.InverseIn},
+	{"PowerIn", impl.PowerIn},
+	{"OrderIn", impl.OrderIn},
+	{"IsCommutative", impl.IsCommutative},
+	{"CentreOf", impl.CentreOf},
+	{"SubgroupOf", impl.SubgroupOf},
+	{"IsComplete", impl.IsComplete},
+	{"LeastComplete", impl.LeastComplete},
+	{"IsAntisymmetric", impl.IsAntisymmetric},
+	{"LeastAntisymmetric", impl.LeastAntisymmetric},
+	{"GroupChain", impl.GroupChain},
+	{"DihedralChain", impl.DihedralChain},
 }
 
 var triedNumbers = []int64{
@@ -100,6 +117,7 @@ var triedLists = [][]int64{
 	nil, {}, {0}, {1}, {0, 1}, {1, 0}, {0, 0}, {1, 2, 0}, {2, 1, 0}, {1, 2}, {-1, 0}, {0, 2, 1, 4, 5, 3}, {35, 36},
 	{math.MinInt64, math.MaxInt64}, {impl.MaxValue, -impl.MaxValue}, {impl.MaxValue + 1}, {0, -impl.MaxValue - 1},
 	turned(20), turned(21), turned(36), turned(37), make([]int64, 40), make([]int64, 41), make([]int64, 1000),
+	{0, 2, 1}, dihedralOrder, make([]int64, 10), make([]int64, 11),
 }
 
 // fewLists has orders for some of triedTables.
@@ -110,6 +128,8 @@ var triedTables = [][][]int64{
 	{{0, -1}, {1, 0}}, {{math.MinInt64, math.MaxInt64}, {0, 0}}, sumTable(3, 3, 1), sumTable(10, 10, 1), sumTable(36, 36, 5),
 	sumTable(37, 10, 1), sumTable(10, 37, 1), make([][]int64, 1000), {make([]int64, 1000)},
 	tableOf("10/01"), tableOf("012/201/120"), tableOf("0123/1230/3012/2301"), tableOf("012/120/210"), sumTable(10, 10, 2), sumTable(37, 37, 1),
+	// These are maps as well.
+	sameOrders(20, 1, 0), sameOrders(21, 1, 0), mapsOf(dihedralOrder, 15), mapsOf(dihedralOrder, 16), tableOf("012/021/00"),
 }
 
 var triedChains = append(invalidChains(),
@@ -127,6 +147,15 @@ var triedPermutings = append(invalidPermutings(),
 	permuting(2, 1, []int64{1, 0}), permuting(3, 2, []int64{1, 2, 0}, []int64{0, 2, 1}, []int64{1, 2, 0}),
 	permuting(2, 0, sameOrders(20, 1, 0)...), permuting(4, 3, ordersOf(4)[:20]...), permuting(36, 35, turned(36), countedList(36)),
 )
+
+var triedGroups = []impl.Group{
+	{}, groupOfText("0"), groupOfText("01/10"), groupOfText("10/01"), groupOfText("012/120/201"), groupOfText("201/012/120"),
+	groupOfText("0123/1032/2301/3210"), groupOf(withNames(dihedralTable(3), turned(6))), groupOfText(quaternionText),
+	groupOf(linearTable(10, 1, 1, 0)), groupOf(dihedralTable(5)), groupOf(withNames(dihedralTable(5), turned(10))),
+	groupOf(linearTable(11, 1, 1, 0)), groupOf(dihedralTable(6)), groupOf(make([][]int64, 1000)), groupOfText("/"), groupOfText("1"), groupOfText("01"), groupOfText("01/1"),
+	groupOfText("02/20"), groupOf([][]int64{{0, 1}, {math.MinInt64, math.MaxInt64}}), groupOfText("012/100/200"), groupOf(loopOfTen()),
+	groupOfText("00/00"), groupOfText("01/01"), groupOfText("00/11"), groupOfText("00/01"), groupOf(withZero(linearTable(9, 1, 1, 0))),
+}
 
 // arguments are numbers and lists to pass; what is passed for other types is always the same.
 type arguments struct {
@@ -156,6 +185,8 @@ func (a arguments) of(parameter reflect.Type) []reflect.Value {
 		return valuesOf(triedWeightings)
 	case reflect.TypeFor[impl.Permuting]():
 		return valuesOf(triedPermutings)
+	case reflect.TypeFor[impl.Group]():
+		return valuesOf(triedGroups)
 	}
 	panic("no arguments for " + parameter.String())
 }
@@ -286,7 +317,9 @@ func TestPromise1CallsKeepNoState(t *testing.T) {
 			say(impl.KnownChain(impl.KnownHybrid, 3)) + say(impl.UnseenPairs(weighting(10, 10, 0, 3, 1), impl.ErrSwap, 0)) +
 			say(impl.PermutingOf(weighting(3, 3, 0, 1, 2))) + say(impl.ReadWeighting("10/10/0/3 1")) +
 			say(impl.FirstTotally(4)) + say(impl.CountTotally(3)) + say(impl.TurnTable(tableOf("012/201/120"), 4)) +
-			say(impl.ChainClashes(tableOf("01/10"))) + say(impl.ReadTable("01/10"))
+			say(impl.ChainClashes(tableOf("01/10"))) + say(impl.ReadTable("01/10")) +
+			say(impl.DihedralGroup(5)) + say(impl.IdentityOf(groupOfText("10/01"))) + say(impl.SubgroupOf(groupOfText(quaternionText), []int64{6})) +
+			say(impl.LeastComplete(groupOfText("01/10"))) + say(impl.LeastAntisymmetric(groupOfText("012/120/201"))) + say(impl.DihedralChain(4))
 	}
 	before := calls()
 	impl.PowerOrder(turned(5), 3)
@@ -304,5 +337,11 @@ func TestPromise1CallsKeepNoState(t *testing.T) {
 	impl.TurnTable(tableOf("0123/1230/3012/2301"), 1)
 	impl.ChainClashes(sumTable(36, 36, 5))
 	impl.ReadTable("012/201/120")
+	impl.DihedralGroup(4)
+	impl.IdentityOf(groupOfText("012/120/201"))
+	impl.SubgroupOf(groupOfText(quaternionText), []int64{1, 4})
+	impl.LeastComplete(groupOfText("012/120/201"))
+	impl.LeastAntisymmetric(groupOf(dihedralTable(5)))
+	impl.DihedralChain(15)
 	expect(t, calls(), before)
 }
