@@ -273,21 +273,26 @@ func reportOf(c impl.Chain, kind int64) slowReport {
 	return report
 }
 
+// placesApart counts the places at which two words with as many symbols differ.
+func placesApart(v, w string) int {
+	apart := 0
+	for place := range v {
+		if v[place] != w[place] {
+			apart++
+		}
+	}
+	return apart
+}
+
 // distanceOf goes through all pairs of checked words; it is 0 if there are none.
 func distanceOf(words []string) int64 {
-	least := int64(0)
+	least := 0
 	for i, v := range words {
 		for _, w := range words[:i] {
-			apart := int64(0)
-			for place := range v {
-				if v[place] != w[place] {
-					apart++
-				}
-			}
-			if least == 0 || apart < least {
+			if apart := placesApart(v, w); least == 0 || apart < least {
 				least = apart
 			}
 		}
 	}
-	return least
+	return int64(least)
 }

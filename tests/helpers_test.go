@@ -6,13 +6,14 @@ import (
 	"testing"
 )
 
-// say writes the results of a call on one line; a nil and an empty list are written alike.
+// say writes the results of a call on one line; a nil and an empty list are written alike, and a list of one empty text is not.
 func say(results ...any) string {
 	words := []string{}
 	for _, result := range results {
-		if text, ok := result.(string); ok {
-			words = append(words, fmt.Sprintf("%q", text))
-		} else {
+		switch result.(type) {
+		case string, []string:
+			words = append(words, fmt.Sprintf("%q", result))
+		default:
 			words = append(words, fmt.Sprint(result))
 		}
 	}

@@ -93,6 +93,18 @@ var builtFunctions = []struct {
 	{"LeastAntisymmetric", impl.LeastAntisymmetric},
 	{"GroupChain", impl.GroupChain},
 	{"DihedralChain", impl.DihedralChain},
+	{"EditDistance", impl.EditDistance},
+	{"TypingDistance", impl.TypingDistance},
+	{"ScriptOf", impl.ScriptOf},
+	{"ApplyScript", impl.ApplyScript},
+	{"NearWords", impl.NearWords},
+	{"WrongWords", impl.WrongWords},
+	{"CandidatesFor", impl.CandidatesFor},
+	{"CompletionsOf", impl.CompletionsOf},
+	{"ShorteningsOf", impl.ShorteningsOf},
+	{"KeySteps", impl.KeySteps},
+	{"LikelySingles", impl.LikelySingles},
+	{"LeastTyping", impl.LeastTyping},
 }
 
 var triedNumbers = []int64{
@@ -111,6 +123,19 @@ var triedTexts = []string{
 	strings.Repeat("0", 100000), strings.Repeat(" ", 100000), "011", "100", "102", "0123", "ZZ", strings.Repeat("1", 20),
 	"10/10/0/3 1", "36/36/35/35 0 35", "10/10/0/3 10", "10/10/0/none", "/", strings.Repeat("/", 100000),
 	"01/10", "012/201/120", "00/11", "01/10/", "01/ 10", "012/201", strings.Repeat("0/", 100000),
+	"=", "=X=", "SS", "DI", "2013", "01100", strings.Repeat("0", 12), strings.Repeat("01", 7), strings.Repeat("0", 19), strings.Repeat("=", 100000),
+}
+
+// fewTexts has scripts for some words.
+var fewTexts = []string{
+	"", "0", "00", "011", "100", "102", "0123", "1Z", "ZZ", "a", "\xff", "=", "=X=", "S==", "I=S", "X", "DDDIII", "=X", "===", "d", strings.Repeat("Z", 20),
+	strings.Repeat("Z", 21), strings.Repeat("1", 20), strings.Repeat("=", 20), strings.Repeat("=", 100000),
+}
+
+var triedWordLists = [][]string{
+	nil, {}, {""}, {"0"}, {"", ""}, {"0", "0"}, {"01", "10"}, {"01", "210", "", "ZZ"}, {"01", "a"}, {"a", "01"}, {"01", "\xff", "02"},
+	slices.Repeat([]string{"01"}, 100), slices.Repeat([]string{"01"}, 101), wordsOver(3, 4), wordsOver(2, 7), make([]string, 1000),
+	{strings.Repeat("0", 12), strings.Repeat("Z", 12)}, {strings.Repeat("0", 12), strings.Repeat("Z", 13)}, {strings.Repeat("0", 100000), "0"},
 }
 
 var triedLists = [][]int64{
@@ -157,15 +182,16 @@ var triedGroups = []impl.Group{
 	groupOfText("00/00"), groupOfText("01/01"), groupOfText("00/11"), groupOfText("00/01"), groupOf(withZero(linearTable(9, 1, 1, 0))),
 }
 
-// arguments are numbers and lists to pass; what is passed for other types is always the same.
+// arguments are numbers, texts and lists to pass; what is passed for other types is always the same.
 type arguments struct {
 	numbers []int64
+	texts   []string
 	lists   [][]int64
 }
 
 var (
-	manyArguments = arguments{triedNumbers, triedLists}
-	fewArguments  = arguments{fewNumbers, fewLists}
+	manyArguments = arguments{triedNumbers, triedTexts, triedLists}
+	fewArguments  = arguments{fewNumbers, fewTexts, fewLists}
 )
 
 // of returns what to pass for each type of a parameter.
@@ -174,7 +200,9 @@ func (a arguments) of(parameter reflect.Type) []reflect.Value {
 	case reflect.TypeFor[int64]():
 		return valuesOf(a.numbers)
 	case reflect.TypeFor[string]():
-		return valuesOf(triedTexts)
+		return valuesOf(a.texts)
+	case reflect.TypeFor[[]string]():
+		return valuesOf(triedWordLists)
 	case reflect.TypeFor[[]int64]():
 		return valuesOf(a.lists)
 	case reflect.TypeFor[[][]int64]():
@@ -319,7 +347,9 @@ func TestPromise1CallsKeepNoState(t *testing.T) {
 			say(impl.FirstTotally(4)) + say(impl.CountTotally(3)) + say(impl.TurnTable(tableOf("012/201/120"), 4)) +
 			say(impl.ChainClashes(tableOf("01/10"))) + say(impl.ReadTable("01/10")) +
 			say(impl.DihedralGroup(5)) + say(impl.IdentityOf(groupOfText("10/01"))) + say(impl.SubgroupOf(groupOfText(quaternionText), []int64{6})) +
-			say(impl.LeastComplete(groupOfText("01/10"))) + say(impl.LeastAntisymmetric(groupOfText("012/120/201"))) + say(impl.DihedralChain(4))
+			say(impl.LeastComplete(groupOfText("01/10"))) + say(impl.LeastAntisymmetric(groupOfText("012/120/201"))) + say(impl.DihedralChain(4)) +
+			say(impl.ScriptOf("1234", "1324")) + say(impl.NearWords("01", 2)) + say(impl.CandidatesFor(parity(3), "011")) +
+			say(impl.CompletionsOf(parity(3), "01")) + say(impl.LikelySingles(sumChain(10, 2), "12")) + say(impl.LeastTyping([]string{"000", "011"}))
 	}
 	before := calls()
 	impl.PowerOrder(turned(5), 3)
@@ -343,5 +373,11 @@ func TestPromise1CallsKeepNoState(t *testing.T) {
 	impl.LeastComplete(groupOfText("012/120/201"))
 	impl.LeastAntisymmetric(groupOf(dihedralTable(5)))
 	impl.DihedralChain(15)
+	impl.ScriptOf("ZZZ", longestWord)
+	impl.NearWords("012", 3)
+	impl.CandidatesFor(sumChain(10, 4), "1300")
+	impl.CompletionsOf(sumChain(36, 9), "01234567")
+	impl.LikelySingles(oneState(10, 3), "555")
+	impl.LeastTyping([]string{"ZZZ", "0", "111"})
 	expect(t, calls(), before)
 }
