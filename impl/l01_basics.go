@@ -35,17 +35,19 @@ func isValue(n int64) bool {
 	return within(n, -MaxValue, MaxValue)
 }
 
-// IsName reports whether s is a name.
-func IsName(s string) bool {
-	if !within(len(s), 1, longestName) {
-		return false
-	}
+// areLetters reports whether s has only letters.
+func areLetters(s string) bool {
 	for _, letter := range s {
 		if !within(letter, 'a', 'z') {
 			return false
 		}
 	}
 	return true
+}
+
+// IsName reports whether s is a name.
+func IsName(s string) bool {
+	return within(len(s), 1, longestName) && areLetters(s)
 }
 
 // Decimal returns n in decimal.

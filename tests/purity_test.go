@@ -105,6 +105,21 @@ var builtFunctions = []struct {
 	{"KeySteps", impl.KeySteps},
 	{"LikelySingles", impl.LikelySingles},
 	{"LeastTyping", impl.LeastTyping},
+	{"ValidLikeness", impl.ValidLikeness},
+	{"AreAlike", impl.AreAlike},
+	{"ClearSymbols", impl.ClearSymbols},
+	{"IsClear", impl.IsClear},
+	{"FamiliesOf", impl.FamiliesOf},
+	{"FoldWord", impl.FoldWord},
+	{"ValidSpeech", impl.ValidSpeech},
+	{"SpeakNumber", impl.SpeakNumber},
+	{"HearNumber", impl.HearNumber},
+	{"WordDistance", impl.WordDistance},
+	{"IsLexicon", impl.IsLexicon},
+	{"LeastGap", impl.LeastGap},
+	{"HearWord", impl.HearWord},
+	{"GroupWord", impl.GroupWord},
+	{"UngroupWord", impl.UngroupWord},
 }
 
 var triedNumbers = []int64{
@@ -124,17 +139,19 @@ var triedTexts = []string{
 	"10/10/0/3 1", "36/36/35/35 0 35", "10/10/0/3 10", "10/10/0/none", "/", strings.Repeat("/", 100000),
 	"01/10", "012/201/120", "00/11", "01/10/", "01/ 10", "012/201", strings.Repeat("0/", 100000),
 	"=", "=X=", "SS", "DI", "2013", "01100", strings.Repeat("0", 12), strings.Repeat("01", 7), strings.Repeat("0", 19), strings.Repeat("=", 100000),
+	"O", "OI0", "0O1I", mostAlike, "a", "five", "fine", "ba-di", "ba-", "A-B12", "AB12", strings.Repeat("z", 20), strings.Repeat("z", 21), strings.Repeat("ba-", 100000),
 }
 
 // fewTexts has scripts for some words.
 var fewTexts = []string{
 	"", "0", "00", "011", "100", "102", "0123", "1Z", "ZZ", "a", "\xff", "=", "=X=", "S==", "I=S", "X", "DDDIII", "=X", "===", "d", strings.Repeat("Z", 20),
-	strings.Repeat("Z", 21), strings.Repeat("1", 20), strings.Repeat("=", 20), strings.Repeat("=", 100000),
+	strings.Repeat("Z", 21), strings.Repeat("1", 20), strings.Repeat("=", 20), strings.Repeat("=", 100000), "O", "I", "1", "B",
 }
 
 var triedWordLists = [][]string{
 	nil, {}, {""}, {"0"}, {"", ""}, {"0", "0"}, {"01", "10"}, {"01", "210", "", "ZZ"}, {"01", "a"}, {"a", "01"}, {"01", "\xff", "02"},
 	slices.Repeat([]string{"01"}, 100), slices.Repeat([]string{"01"}, 101), wordsOver(3, 4), wordsOver(2, 7), make([]string, 1000),
+	{"five", "nine", "zero"}, {"a", "five", "ab"}, {"five", "five"}, {"", "five"}, {strings.Repeat("z", 20), strings.Repeat("z", 19)}, lexiconOf(16), lexiconOf(17),
 	{strings.Repeat("0", 12), strings.Repeat("Z", 12)}, {strings.Repeat("0", 12), strings.Repeat("Z", 13)}, {strings.Repeat("0", 100000), "0"},
 }
 
@@ -143,6 +160,7 @@ var triedLists = [][]int64{
 	{math.MinInt64, math.MaxInt64}, {impl.MaxValue, -impl.MaxValue}, {impl.MaxValue + 1}, {0, -impl.MaxValue - 1},
 	turned(20), turned(21), turned(36), turned(37), make([]int64, 40), make([]int64, 41), make([]int64, 1000),
 	{0, 2, 1}, dihedralOrder, make([]int64, 10), make([]int64, 11),
+	{1, 3}, {4}, {20}, {2, 2}, slices.Repeat([]int64{2}, 10), slices.Repeat([]int64{2}, 11),
 }
 
 // fewLists has orders for some of triedTables.
@@ -182,6 +200,17 @@ var triedGroups = []impl.Group{
 	groupOfText("00/00"), groupOfText("01/01"), groupOfText("00/11"), groupOfText("00/01"), groupOf(withZero(linearTable(9, 1, 1, 0))),
 }
 
+var triedLikenesses = []impl.Likeness{
+	{}, likeness("", "01"), likeness(mostAlike + "C"), likeness("0AA"), likeness("o"), likeness("\xff"), likeness("01", ""), likeness("01", "0"), likeness("01", "012"),
+	likeness("01", "00"), likeness("01", "02"), likeness("01", "01", "01"), likeness("012", "01", "12", "10"), likeness("01", "0\xff"), likeness(mostAlike, pairsOf(mostAlike)[:41]...),
+	likeness("0"), likeness("01"), likeness("0O1I", "0O", "1I"), likeness("O0I1", "O0", "I1", "01"), likeness("BAC", "AB", "BC"), likeness(mostAlike),
+	likeness(mostAlike, pairsOf(mostAlike)[:40]...), pathThrough(mostAlike, mostAlike), ringOf("ABCDE"), likeness("012345678", pairsOf("012345678")...),
+}
+
+var triedSpeeches = append(invalidSpeeches(),
+	speech("b", "a"), speech("bd", "ai"), speech("db", "ia"), speech("bcdfghjkl", "aei"), speech(mostFirstLetters, mostSecondLetters), speech(mostFirstLetters[:15], "aeiou"),
+)
+
 // arguments are numbers, texts and lists to pass; what is passed for other types is always the same.
 type arguments struct {
 	numbers []int64
@@ -215,6 +244,10 @@ func (a arguments) of(parameter reflect.Type) []reflect.Value {
 		return valuesOf(triedPermutings)
 	case reflect.TypeFor[impl.Group]():
 		return valuesOf(triedGroups)
+	case reflect.TypeFor[impl.Likeness]():
+		return valuesOf(triedLikenesses)
+	case reflect.TypeFor[impl.Speech]():
+		return valuesOf(triedSpeeches)
 	}
 	panic("no arguments for " + parameter.String())
 }
@@ -349,7 +382,10 @@ func TestPromise1CallsKeepNoState(t *testing.T) {
 			say(impl.DihedralGroup(5)) + say(impl.IdentityOf(groupOfText("10/01"))) + say(impl.SubgroupOf(groupOfText(quaternionText), []int64{6})) +
 			say(impl.LeastComplete(groupOfText("01/10"))) + say(impl.LeastAntisymmetric(groupOfText("012/120/201"))) + say(impl.DihedralChain(4)) +
 			say(impl.ScriptOf("1234", "1324")) + say(impl.NearWords("01", 2)) + say(impl.CandidatesFor(parity(3), "011")) +
-			say(impl.CompletionsOf(parity(3), "01")) + say(impl.LikelySingles(sumChain(10, 2), "12")) + say(impl.LeastTyping([]string{"000", "011"}))
+			say(impl.CompletionsOf(parity(3), "01")) + say(impl.LikelySingles(sumChain(10, 2), "12")) + say(impl.LeastTyping([]string{"000", "011"})) +
+			say(impl.ClearSymbols(likeness("BAC", "AB", "BC"))) + say(impl.FamiliesOf(likeness("0O1I", "0O", "1I"))) + say(impl.FoldWord(likeness("0O1I", "0O", "1I"), "OI0")) +
+			say(impl.SpeakNumber(speech("bd", "ai"), 6, 2)) + say(impl.HearNumber(speech("bd", "ai"), "bi-da")) + say(impl.WordDistance("five", "nine")) +
+			say(impl.LeastGap([]string{"five", "nine", "zero"})) + say(impl.HearWord([]string{"five", "nine", "zero"}, "vine", 1)) + say(impl.GroupWord("AB12", []int64{1, 3}))
 	}
 	before := calls()
 	impl.PowerOrder(turned(5), 3)
@@ -379,5 +415,14 @@ func TestPromise1CallsKeepNoState(t *testing.T) {
 	impl.CompletionsOf(sumChain(36, 9), "01234567")
 	impl.LikelySingles(oneState(10, 3), "555")
 	impl.LeastTyping([]string{"ZZZ", "0", "111"})
+	impl.ClearSymbols(likeness(mostAlike, pairsOf(mostAlike)[:40]...))
+	impl.FamiliesOf(pathThrough(mostAlike, mostAlike))
+	impl.FoldWord(likeness("OI0", "0O", "OI"), "I0O")
+	impl.SpeakNumber(speech(mostFirstLetters, mostSecondLetters), 77777, 7)
+	impl.HearNumber(speech("db", "ia"), "di-ba-ba")
+	impl.WordDistance("seven", "")
+	impl.LeastGap(lexiconOf(16))
+	impl.HearWord([]string{"nine", "five"}, "five", 3)
+	impl.GroupWord(longestWord, []int64{10, 10})
 	expect(t, calls(), before)
 }

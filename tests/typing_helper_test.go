@@ -31,13 +31,18 @@ func wordsUpTo(base int64, most int) []string {
 	return words
 }
 
-func randomWord(number func(int64) int64, base int64, symbols int) string {
-	word := ""
-	for range symbols {
-		digit := number(base)
-		word += allSymbols[digit : digit+1]
+// randomText has symbols that look arbitrary, all of them of a source.
+func randomText(number func(int64) int64, source string, length int) string {
+	text := ""
+	for range length {
+		at := number(int64(len(source)))
+		text += source[at : at+1]
 	}
-	return word
+	return text
+}
+
+func randomWord(number func(int64) int64, base int64, symbols int) string {
+	return randomText(number, allSymbols[:base], symbols)
 }
 
 // lettersFor returns the letters with which a script of two words can begin, and how many symbols each one goes over in both.
